@@ -15,6 +15,20 @@ FUNCTIONS = {
         "updates": ["problem", "samples", "table"],
         "train": ["problem", "count"],
     },
+    "stays": {
+        "users": ["problem", "setup", "row", "batch"],
+        "uses": ["problem", "first", "row"],
+        "stays": ["problem", "setup", "first"],
+    },
+    "events": {
+        "events": ["problem", "setup", "first"],
+        "causes": ["problem", "setup", "first", "event"],
+        "plan": ["problem", "setup", "first"],
+    },
+    "logs": {
+        "audit": ["problem", "setup", "first", "log"],
+        "is_orderly": ["problem", "setup", "first", "log"],
+    },
 }
 CLASSES = {
     "errors": ["AheadError", "BadProblem", "BadSetup", "BadDelays", "NoSuchEvent", "NotPossible",

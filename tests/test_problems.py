@@ -5,7 +5,7 @@ import unittest
 
 from rowsahead.errors import BadProblem, BadSetup
 from rowsahead.problems import check_problem, check_setup
-from tests.odd_values import NOT_INTEGERS, NOT_TUPLES
+from tests.helper import EXAMPLE, NOT_INTEGERS, NOT_TUPLES
 
 SAMPLE = ((0, 2), 4)
 MILLION = 1000000
@@ -41,8 +41,7 @@ class Checks(unittest.TestCase):
 
 class RightProblems(Checks):
     def test_problems(self):
-        example = ((5, 0, 2), ((((0, 1), 9),), (((1,), 5), ((0,), 0)), (((0, 2), 4),)), 2, 3)
-        self.assert_right(check_problem, [problem(), example])
+        self.assert_right(check_problem, [problem(), EXAMPLE])
 
     def test_rows(self):
         few_rows = [problem(rows=(worth,), batches=((),)) for worth in (-MILLION, -1, 0, MILLION)]

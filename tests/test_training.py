@@ -1,11 +1,10 @@
 """Point 6: corrections, updates and sequential training; point 2: what is passed is unchanged."""
 
-import copy
 import unittest
 
 from rowsahead.training import correction, train, updates
+from tests.helper import EXAMPLE, Case
 
-EXAMPLE = ((5, 0, 2), ((((0, 1), 9),), (((1,), 5), ((0,), 0)), (((0, 2), 4),)), 2, 3)
 # In its first batch the corrections are -2, -3 and 4; one that was computed on a table
 # with an earlier one of them in it would be another number.
 SHARED = ((10, -3), ((((0,), 4), ((0, 1), 0), ((1, 0), 20)), (), (((1,), 7),)), 3, 5)
@@ -132,13 +131,7 @@ class Training(unittest.TestCase):
         self.assert_tables(problem, expected)
 
 
-class Unchanged(unittest.TestCase):
-    def assert_unchanged(self, call, *passed):
-        before = copy.deepcopy(passed)
-        first = call(*passed)
-        self.assertEqual(passed, before)
-        self.assertEqual(call(*passed), first)
-
+class Unchanged(Case):
     def test_what_was_passed_is_unchanged(self):
         self.assert_unchanged(train, EXAMPLE, 3)
         self.assert_unchanged(train, SHARED, 3)

@@ -1,8 +1,32 @@
-"""Values of other kinds than tuples and integers, for the tests of what is checked."""
+"""What several tests use: the example of the document, checks, and values of odd kinds."""
 
+import copy
+import unittest
 from collections import namedtuple
 from enum import IntEnum
 from unittest.mock import MagicMock
+
+# The example that the document gives under rowsahead/logs.py.
+EXAMPLE = ((5, 0, 2), ((((0, 1), 9),), (((1,), 5), ((0,), 0)), (((0, 2), 4),)), 2, 3)
+SETUP = (2, 1, 1)
+
+
+class Case(unittest.TestCase):
+    def assert_unchanged(self, call, *passed):
+        """Check that a call changes nothing, so that it returns the same when it is repeated."""
+        before = copy.deepcopy(passed)
+        first = call(*passed)
+        self.assertEqual(passed, before)
+        self.assertEqual(call(*passed), first)
+
+
+def used_in(count, *used):
+    """Return a problem with so many batches; each row is used in those that are told for it."""
+    batches = []
+    for batch in range(count):
+        rows = [row for row in range(len(used)) if batch in used[row]]
+        batches.append(tuple([((row,), 1) for row in reversed(rows)]))
+    return ((0,) * len(used), tuple(batches), 1, 1)
 
 
 def refuse(*told, **more):
