@@ -4,6 +4,8 @@ from rowsahead.errors import NoSuchEvent
 from rowsahead.problems import is_tuple
 from rowsahead.stays import stays, users, uses
 
+# The kinds of events in canonical order.
+KINDS = ("request", "read", "reply", "value", "compute", "update", "write", "ack")
 # The kinds of events with a single cause that has the same row and batch.
 KINDS_BEFORE = {"read": "request", "reply": "read", "ack": "write"}
 
@@ -15,6 +17,11 @@ def events(problem, setup, first):
     for batch in range(first, len(problem[1])):
         found.extend(_events_of_batch(problem, setup, known, batch))
     return tuple(found)
+
+
+def canonical_key(event):
+    """Return what the events of a run are sorted by in canonical order."""
+    return event[2], KINDS.index(event[0]), event[1], event[3:]
 
 
 def _events_of_batch(problem, setup, known, batch):
@@ -52,7 +59,7 @@ class Course:
 
     def has(self, value):
         """Tell whether a value, whatever it is, is an event of the run."""
-        return _is_like_an_event(value) and value in self.places
+        return is_like_an_event(value) and value in self.places
 
     def causes_of(self, event):
         """Return the tuple of the direct causes of an event of the run, in canonical order."""
@@ -104,7 +111,8 @@ class Course:
         return [("update", row, batch, trainer) for trainer in range(trainers)]
 
 
-def _is_like_an_event(value):
+def is_like_an_event(value):
+    """Tell whether a value, whatever it is, is a tuple that may be looked up among events."""
     # Looked up among the events, a list would be an error, and True would be found as 1.
     if not is_tuple(value, 3, 4):
         return False

@@ -5,7 +5,7 @@ import unittest
 
 from rowsahead.events import causes, events
 from rowsahead.logs import audit, is_orderly
-from tests.helper import EXAMPLE, NOT_INTEGERS, NOT_TUPLES, SETUP, Case, used_in
+from tests.helper import EXAMPLE, NOT_INTEGERS, NOT_TUPLES, RUNS, SETUP, Case
 
 # The example under rowsahead/logs.py, as it stands in the document.
 DOCUMENT = """\
@@ -24,10 +24,6 @@ DOCUMENT = """\
 >>> audit(problem, setup, 0, [("request", 0, 0), ("read", 0, 0), ("value", 0, 0, 0)])
 2
 """
-# Both rows are fetched twice, and in batch 2 nothing happens but computes.
-TWICE = ((0, 0), ((((0, 1), 1), ((1,), 2)), (((0,), 3),), (), (((1,), 4), ((0,), 5))), 1, 9)
-RUNS = ((EXAMPLE, SETUP, 0), (EXAMPLE, (1, 2, 2), 1), (TWICE, (2, 1, 1), 0), (TWICE, (3, 2, 3), 1),
-        (used_in(5, (0, 2, 4), (1,), (0, 1, 2)), (2, 1, 2), 0))
 
 
 class LogCase(Case):

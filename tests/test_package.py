@@ -7,6 +7,8 @@ import inspect
 import pathlib
 import unittest
 
+from rowsahead.runs import Run
+
 PACKAGE = pathlib.Path(__file__).resolve().parent.parent / "rowsahead"
 FUNCTIONS = {
     "problems": {"check_problem": ["value"], "check_setup": ["value"]},
@@ -29,10 +31,41 @@ FUNCTIONS = {
         "audit": ["problem", "setup", "first", "log"],
         "is_orderly": ["problem", "setup", "first", "log"],
     },
+    "times": {
+        "check_delays": ["value"],
+        "timetable": ["problem", "setup", "first", "delays"],
+        "judge_time": ["problem", "setup", "first", "delays", "event", "time", "paper"],
+        "explain_time": ["problem", "setup", "first", "delays", "event", "time"],
+    },
+    "papers": {
+        "judge_exchanges": ["problem", "setup", "first", "log", "other", "places"],
+        "exchanges": ["problem", "setup", "first", "log", "other"],
+        "judge_fault": ["problem", "setup", "first", "log", "paper"],
+        "explain_fault": ["problem", "setup", "first", "log"],
+    },
 }
 CLASSES = {
     "errors": ["AheadError", "BadProblem", "BadSetup", "BadDelays", "NoSuchEvent", "NotPossible",
                "CheckpointUnderWay", "TooLate"],
+    "runs": ["Run"],
+}
+METHODS_OF_RUNS = {
+    "__init__": ["self", "problem", "setup", "first"],
+    "settled": ["self"],
+    "finished": ["self"],
+    "enabled": ["self"],
+    "step": ["self", "event"],
+    "rows": ["self"],
+    "positions": ["self"],
+    "save": ["self", "batch"],
+    "checkpoint": ["self"],
+    "restart": ["self", "setup"],
+    "play": ["self"],
+    "tried": ["self"],
+    "foresee": ["self", "event"],
+    "__len__": ["self"],
+    "__iter__": ["self"],
+    "__eq__": ["self", "other"],
 }
 # What the rules let a file import from outside of the package: no clock, no random numbers, no files.
 LIBRARY = ("__future__", "collections", "heapq", "itertools", "math")
@@ -61,6 +94,16 @@ class Interface(unittest.TestCase):
             for name in names:
                 with self.subTest(module, name=name):
                     self.assertIn(name, defined(module, ast.ClassDef))
+
+    def test_methods_of_runs_are_defined_in_the_class_with_their_arguments(self):
+        for name, arguments in METHODS_OF_RUNS.items():
+            with self.subTest(name):
+                self.assertIn(name, vars(Run))
+                self.assertEqual(list(inspect.signature(vars(Run)[name]).parameters), arguments)
+
+    def test_field_of_runs(self):
+        run = Run(problem=((1,), ((),), 1, 1), setup=(1, 1, 1), first=0)
+        self.assertEqual(vars(run)["first"], 0)
 
 
 class Files(unittest.TestCase):
