@@ -91,25 +91,23 @@ class Beginnings(EqualityCase):
 
 
 class Checkpoints(EqualityCase):
-    def test_complete_ones(self):
-        run, other = Run(SHARED, SETUP, 0), Run(SHARED, SETUP, 0)
-        run.save(1)
+    def saved_run(self, problem, batch):
+        """Return a run with a checkpoint of a batch, which must be found in both of two runs."""
+        run, other = Run(problem, SETUP, 0), Run(problem, SETUP, 0)
+        run.save(batch)
         self.assert_different(run, other)
-        other.save(1)
+        other.save(batch)
         self.assert_equal(run, other)
+        return run
+
+    def test_complete_ones(self):
+        run, other = self.saved_run(SHARED, 1), self.saved_run(SHARED, 1)
         run.save(0)
         self.assert_different(run, other)
         self.assert_equal(run, Run(SHARED, SETUP, 0))
 
     def test_ones_that_are_under_way(self):
-        run, other = Run(EXAMPLE, SETUP, 0), Run(EXAMPLE, SETUP, 0)
-        run.save(2)
-        self.assert_different(run, other)
-        other.save(2)
-        self.assert_equal(run, other)
-        other = Run(EXAMPLE, SETUP, 0)
-        other.save(3)
-        self.assert_different(run, other)
+        self.assert_different(self.saved_run(EXAMPLE, 2), self.saved_run(EXAMPLE, 3))
 
     def test_complete_and_under_way(self):
         for events_before in range(0, 20, 3):

@@ -2,8 +2,8 @@
 
 import unittest
 
-from rowsahead.events import events, plan
-from tests.helper import EXAMPLE, SETUP, Case, used_in
+from rowsahead.events import canonical_key, events, plan
+from tests.helper import EXAMPLE, RUNS, SETUP, Case, used_in
 
 # In batch 0 both rows are looked up by two samples, in batch 1 none, in batch 2 row 1.
 MIXED = ((1, 1), ((((1,), 0), ((1, 0), 0), ((0,), 0)), (), (((1,), 0),)), 1, 1)
@@ -138,6 +138,12 @@ class Events(unittest.TestCase):
                 ("write", 1, 2),
                 ("ack", 1, 2),
             ))
+
+    def test_events_that_are_sorted_by_their_canonical_keys(self):
+        for run in RUNS:
+            listed = events(*run)
+            for mixed in (listed[::-1], sorted(listed), listed[1::2] + listed[::2]):
+                self.assertEqual(tuple(sorted(mixed, key=canonical_key)), listed)
 
     def test_more_rows_and_batches_than_the_limits(self):
         problem = ((0,) * 30, ((((29,), 1),),) * 30, 1, 1)

@@ -80,15 +80,19 @@ class Trials(TrialCase):
 
     def test_values_that_are_kept_in_it_are_not_kept_behind_it(self):
         problem = ((0, 0), ((((0,), 10), ((1,), 5)), (((0,), 30),), (((0,), 60),)), 1, 100)
-        run = Run(problem, (2, 20, 20), 0)
+        run, other = Run(problem, (2, 20, 20), 0), Run(problem, (2, 20, 20), 0)
         run.save(1)
+        other.save(1)
         with run.tried():
             while run.rows()[0][1] < 3:
                 run.step([event for event in run.enabled() if event != ("update", 1, 0, 1)][0])
+            self.assertEqual(run.settled(), 0)
+        self.assertTrue(run == other)
         with run.tried():
             run.restart((1, 20, 20))
             run.save(2)
             run.play()
+        self.assertTrue(run == other)
         run.play()
         self.assertEqual(run.checkpoint(), (1, (10, 5)))
 
